@@ -1,0 +1,1 @@
+"""Rankings within bounds, what is sure of them, and why."""

@@ -1,0 +1,178 @@
+"""Problems for the tests, and what all rankings of their items say of them.
+
+Nothing here is taken from the program: what it returns is compared with this.
+"""
+
+import random
+from functools import lru_cache
+from itertools import combinations, combinations_with_replacement, permutations
+
+from rankswithin.errors import BadValue, NotPossible, TooLarge
+
+
+def nested(depth, kind):
+    """A tuple or a list that is nested so deep that no recursion gets through it."""
+    value = kind()
+    for _ in range(depth):
+        value = kind((value,))
+    return value
+
+
+DEEP_TUPLE = nested(100000, tuple)
+DEEP_LIST = nested(100000, list)
+OTHER_DEEP_TUPLE = nested(100000, tuple)
+
+# Values of every kind, none of which is a constraint, a ranking, a problem or evidence of anything.
+ODD_VALUES = [
+    None, True, False, 0, 1, 2, -1, 8, 10 ** 40, -10 ** 40, 1.0, float("nan"), b"cycle", {}, {"cycle"}, object(),
+    "", "within", "ahead", "cycle", "overfull", "ranking", "contradiction", "ab", "abcd",
+    [], [[]], (), ((),), ((), ()), ((), (), ()), ((), (), (), ()), [0], [0, 1], (None,), (True,), (False,),
+    (True, False), ("0",), ("0", "1"), (0.0,), ([0],), ([0], [1]), ({},), ({}, {}),
+    (0, None), (None, 0), (-1,), (7,), (10 ** 40,), ("within",), ("ahead",), ("cycle",), ("overfull",),
+    ("cycle", None), ("cycle", ()), ("cycle", []), ("cycle", "cycle"), ("cycle", 1), ("cycle", (0,)),
+    ("overfull", 1, 0, ()), ("overfull", 1, 0, None), ("overfull", 1, 0, ((),)), ("overfull", 1, 0, (None,)),
+    ("overfull", 1, 0, ((0, None, None),)), ("overfull", 1, 0, ((0, (), ()),)), ("overfull", None, None, ((0, (0,), (0,)),)),
+    ("ranking", None), ("ranking", ()), ("ranking", []), ("ranking", "ranking"), ("ranking", 1),
+    ("contradiction", None), ("contradiction", ()), ("contradiction", ("cycle",)), ("contradiction", ("ranking", (0, 1))),
+    DEEP_TUPLE, DEEP_LIST, (DEEP_TUPLE, DEEP_TUPLE), (DEEP_LIST, DEEP_LIST), (0, DEEP_TUPLE), (DEEP_TUPLE, 0),
+    (DEEP_TUPLE, DEEP_TUPLE, DEEP_TUPLE), ("within", DEEP_TUPLE, DEEP_TUPLE, DEEP_TUPLE), ("ahead", DEEP_TUPLE, DEEP_TUPLE),
+    ("cycle", DEEP_TUPLE), ("cycle", (DEEP_TUPLE, DEEP_TUPLE)), ("overfull", DEEP_TUPLE, DEEP_LIST, DEEP_TUPLE),
+    ("overfull", 1, 0, DEEP_TUPLE), ("overfull", 1, 0, ((0, DEEP_TUPLE, DEEP_TUPLE),)),
+    ("ranking", DEEP_TUPLE), ("contradiction", DEEP_TUPLE), (3, DEEP_TUPLE), (3, (DEEP_TUPLE,)), (3, DEEP_LIST),
+]
+
+
+def every_constraint(items):
+    """All constraints for so many items."""
+    windows = [
+        ("within", item, low, high)
+        for item in range(items) for low in range(1, items + 1) for high in range(low, items + 1)
+    ]
+    return windows + [("ahead", one, other) for one in range(items) for other in range(items) if one != other]
+
+
+def meets(ranking, constraint):
+    """Whether the ranking satisfies the constraint (point 6)."""
+    place = {item: at for at, item in enumerate(ranking, start=1)}
+    if constraint[0] == "ahead":
+        return place[constraint[1]] < place[constraint[2]]
+    return place[constraint[1]] in range(constraint[2], constraint[3] + 1)
+
+
+def all_rankings(items):
+    """All rankings of so many items, in order."""
+    return list(permutations(range(items)))
+
+
+@lru_cache(maxsize=None)
+def satisfying(items, constraint):
+    """The set of the rankings of so many items that satisfy the constraint."""
+    return frozenset(ranking for ranking in all_rankings(items) if meets(ranking, constraint))
+
+
+@lru_cache(maxsize=None)
+def good_rankings(problem):
+    """All good rankings of the problem, in order."""
+    items, constraints = problem
+    found = set(all_rankings(items))
+    for constraint in constraints:
+        found &= satisfying(items, constraint)
+    return sorted(found)
+
+
+def loose_problem(chance, items):
+    """A problem of whatever constraints."""
+    choice = every_constraint(items)
+    return items, tuple(chance.choice(choice) for _ in range(chance.randrange(1, 13)))
+
+
+def near_problem(chance, items):
+    """A problem that some ranking satisfies, but for one constraint now and then."""
+    hidden = tuple(chance.sample(range(items), items))
+    choice = [one for one in every_constraint(items) if meets(hidden, one)]
+    constraints = [chance.choice(choice) for _ in range(chance.randrange(1, 13))]
+    if chance.randrange(3) == 0:
+        constraints[chance.randrange(len(constraints))] = chance.choice(every_constraint(items))
+    return items, tuple(constraints)
+
+
+def crowded_problem(chance, items):
+    """A problem with many items ahead of one another, and a few bounds."""
+    windows = [one for one in every_constraint(items) if one[0] == "within"]
+    pairs = list(combinations(range(items), 2))
+    constraints = [("ahead",) + chance.choice(pairs) for _ in range(chance.randrange(1, 9))]
+    constraints += [chance.choice(windows) for _ in range(chance.randrange(0, 4))]
+    chance.shuffle(constraints)
+    return items, tuple(constraints)
+
+
+@lru_cache(maxsize=None)
+def sampled_problems(items, many):
+    """So many problems of each of three kinds, the same in each run."""
+    chance = random.Random(1000 * items + many)
+    makers = (loose_problem, near_problem, crowded_problem)
+    return [make(chance, items) for _ in range(many) for make in makers]
+
+
+@lru_cache(maxsize=None)
+def tiny_problems():
+    """All problems of one or two items with each constraint at most once, and some with one twice."""
+    found = [(1, (("within", 0, 1, 1),) * many) for many in (0, 1, 2, 12)]
+    choice = every_constraint(2)
+    for many in range(len(choice) + 1):
+        found += [(2, constraints) for constraints in combinations(choice, many)]
+    return found + [(2, (one, other, one)) for one in choice for other in choice]
+
+
+@lru_cache(maxsize=None)
+def threes():
+    """All problems of three items with at most two constraints, also with one twice."""
+    choice = every_constraint(3)
+    return [(3, one) for many in range(3) for one in combinations_with_replacement(choice, many)]
+
+
+@lru_cache(maxsize=None)
+def small_problems():
+    """Problems for the comparison with all rankings of their items."""
+    found = tiny_problems() + threes() + sampled_problems(3, 100) + sampled_problems(4, 100)
+    found = found + sampled_problems(5, 30) + sampled_problems(6, 8) + sampled_problems(7, 3)
+    return found + [(items, ()) for items in range(1, 8)]
+
+
+def name_of_wrong(case, function, *arguments):
+    """The name that the BadValue has which the call raises."""
+    with case.assertRaises(BadValue) as caught:
+        function(*arguments)
+    case.assertIs(caught.exception.__class__, BadValue)
+    return caught.exception.name
+
+
+def too_large(case, function, *arguments):
+    """What the TooLarge says that the call raises."""
+    with case.assertRaises(TooLarge) as caught:
+        function(*arguments)
+    return caught.exception.what
+
+
+def not_possible(case, function, *arguments):
+    """What the NotPossible says that the call raises."""
+    with case.assertRaises(NotPossible) as caught:
+        function(*arguments)
+    return caught.exception.why
+
+
+# Values that are no problem.
+NO_PROBLEMS = [
+    None, 3, "problem", (), (3,), (3, (), ()), [3, ()], (3, []), (True, ()), (0, ()), (8, ()), (-1, ()), ("3", ()),
+    (3, None), (3, "within"), (3, (("within", 0, 1, 4),)), (3, (("within", 0, 0, 1),)), (3, (("within", 0, 2, 1),)),
+    (3, (("within", 3, 1, 1),)), (3, (["within", 0, 1, 1],)), (3, (("within", 0, 1),)), (3, (("within", 0, 1, 1, 1),)),
+    (3, (("ahead", 0, 0),)), (3, (("ahead", 0, 3),)), (3, (("ahead", 0),)), (3, (("ahead", 0, 1, 2),)),
+    (3, (("ahead", False, True),)), (3, (("behind", 0, 1),)), (3, (("ahead", 0, 1),) * 13), (1, (("ahead", 0, 1),)),
+    (3, ("ahead", 0, 1)), (3, (("ahead", 0, 1), None)), DEEP_TUPLE, DEEP_LIST, (3, DEEP_TUPLE),
+]
+
+# Values that are no ranking, no order and no beginning of the items 0, 1 and 2.
+NO_RANKINGS_OF_THREE = [
+    None, 0, "012", [0, 1, 2], [], (0, 1, 3), (0, 1, -1), (0, 1, 1), (False, True, 2), (0, 1, "2"), (0, 1, None),
+    (0, 1, 2, 3), (0, 1, 2, 0), ((0, 1, 2),), (0, 1, 2.0), ([0], [1], [2]), DEEP_TUPLE, DEEP_LIST,
+]

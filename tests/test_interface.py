@@ -1,0 +1,52 @@
+"""Point 8: each name stands in its file, with its arguments; and the examples of the interface."""
+
+import doctest
+import importlib
+import inspect
+import unittest
+
+FUNCTIONS = {
+    "problems": {
+        "is_constraint": ["items", "value"], "is_ranking": ["items", "value"], "is_problem": ["value"],
+        "places": ["problem", "ranking"], "violated": ["problem", "ranking"], "satisfies": ["problem", "ranking"],
+        "with_constraint": ["problem", "constraint"],
+    },
+    "formed": {
+        "tidied": ["problem"], "mirrored": ["problem"], "renamed": ["problem", "order"], "part": ["problem", "indexes"],
+    },
+}
+
+ERRORS = {
+    "RankError": None, "BadValue": ["name"], "TooLarge": ["what"], "NotPossible": ["why"],
+    "TextError": ["column", "words"],
+}
+
+
+def load_tests(loader, tests, pattern):
+    """Add the examples of the interface and of the README to the tests of this file."""
+    tests.addTests(doctest.DocFileSuite("interface.txt", "../README.md"))
+    return tests
+
+
+class Names(unittest.TestCase):
+    def test_point_8_functions_stand_in_their_files(self):
+        for file, functions in FUNCTIONS.items():
+            module = importlib.import_module(f"rankswithin.{file}")
+            for name, arguments in functions.items():
+                function = getattr(module, name)
+                self.assertTrue(inspect.isfunction(function), name)
+                self.assertEqual(function.__module__, module.__name__)
+                self.assertEqual(list(inspect.signature(function).parameters), arguments)
+
+    def test_point_8_errors_stand_in_their_file(self):
+        module = importlib.import_module("rankswithin.errors")
+        for name, arguments in ERRORS.items():
+            error = getattr(module, name)
+            self.assertTrue(inspect.isclass(error), name)
+            self.assertEqual(error.__module__, "rankswithin.errors")
+            if arguments is not None:
+                self.assertEqual(list(inspect.signature(error).parameters), arguments)
+
+
+if __name__ == "__main__":
+    unittest.main()
