@@ -2,6 +2,8 @@
 
 from rankswithin.errors import BadValue
 
+MOST_BOUND = 20
+
 
 def check(right, name):
     """Raise BadValue with the name of the argument if the argument is not right."""
@@ -18,6 +20,11 @@ def is_integer(value, least, most):
 def is_item(items, value):
     """Tell whether the value is one of so many items."""
     return is_integer(value, 0, items - 1)
+
+
+def is_bound(value):
+    """Tell whether the value can be the low or the high place of evidence."""
+    return is_integer(value, -MOST_BOUND, MOST_BOUND)
 
 
 def is_tagged(value, word, size):
@@ -38,4 +45,4 @@ def are_different_items(items, value):
 
 def is_ascending(value):
     """Tell whether each integer of the tuple is less than the next one."""
-    return all(one < other for one, other in zip(value, value[1:]))
+    return all([one < other for one, other in zip(value, value[1:])])

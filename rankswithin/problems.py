@@ -60,14 +60,14 @@ def places(problem, ranking):
     """Return the places of the items in the ranking."""
     check(is_problem(problem), "problem")
     check(is_ranking(problem[0], ranking), "ranking")
-    return tuple(place_of(ranking, item) for item in range(problem[0]))
+    return tuple([place_of(ranking, item) for item in range(problem[0])])
 
 
 def violated(problem, ranking):
     """Return the indexes of the constraints that the ranking violates."""
     check(is_problem(problem), "problem")
     check(is_ranking(problem[0], ranking), "ranking")
-    return tuple(index for index, constraint in enumerate(problem[1]) if not holds(constraint, ranking))
+    return tuple([index for index, constraint in enumerate(problem[1]) if not holds(constraint, ranking)])
 
 
 def satisfies(problem, ranking):

@@ -1,6 +1,6 @@
 """Problems for the tests, and what all rankings of their items say of them.
 
-Nothing here is taken from the program: what it returns is compared with this.
+Nothing here but the errors is taken from the program: what it returns is compared with this.
 """
 
 import random
@@ -31,11 +31,14 @@ ODD_VALUES = [
     (0, None), (None, 0), (-1,), (7,), (10 ** 40,), ("within",), ("ahead",), ("cycle",), ("overfull",),
     ("cycle", None), ("cycle", ()), ("cycle", []), ("cycle", "cycle"), ("cycle", 1), ("cycle", (0,)),
     ("overfull", 1, 0, ()), ("overfull", 1, 0, None), ("overfull", 1, 0, ((),)), ("overfull", 1, 0, (None,)),
-    ("overfull", 1, 0, ((0, None, None),)), ("overfull", 1, 0, ((0, (), ()),)), ("overfull", None, None, ((0, (0,), (0,)),)),
+    ("overfull", 1, 0, ((0, None, None),)), ("overfull", 1, 0, ((0, (), ()),)),
+    ("overfull", None, None, ((0, (0,), (0,)),)),
     ("ranking", None), ("ranking", ()), ("ranking", []), ("ranking", "ranking"), ("ranking", 1),
-    ("contradiction", None), ("contradiction", ()), ("contradiction", ("cycle",)), ("contradiction", ("ranking", (0, 1))),
+    ("contradiction", None), ("contradiction", ()), ("contradiction", ("cycle",)),
+    ("contradiction", ("ranking", (0, 1))),
     DEEP_TUPLE, DEEP_LIST, (DEEP_TUPLE, DEEP_TUPLE), (DEEP_LIST, DEEP_LIST), (0, DEEP_TUPLE), (DEEP_TUPLE, 0),
-    (DEEP_TUPLE, DEEP_TUPLE, DEEP_TUPLE), ("within", DEEP_TUPLE, DEEP_TUPLE, DEEP_TUPLE), ("ahead", DEEP_TUPLE, DEEP_TUPLE),
+    (DEEP_TUPLE, DEEP_TUPLE, DEEP_TUPLE), ("within", DEEP_TUPLE, DEEP_TUPLE, DEEP_TUPLE),
+    ("ahead", DEEP_TUPLE, DEEP_TUPLE),
     ("cycle", DEEP_TUPLE), ("cycle", (DEEP_TUPLE, DEEP_TUPLE)), ("overfull", DEEP_TUPLE, DEEP_LIST, DEEP_TUPLE),
     ("overfull", 1, 0, DEEP_TUPLE), ("overfull", 1, 0, ((0, DEEP_TUPLE, DEEP_TUPLE),)),
     ("ranking", DEEP_TUPLE), ("contradiction", DEEP_TUPLE), (3, DEEP_TUPLE), (3, (DEEP_TUPLE,)), (3, DEEP_LIST),
@@ -137,6 +140,158 @@ def small_problems():
     found = tiny_problems() + threes() + sampled_problems(3, 100) + sampled_problems(4, 100)
     found = found + sampled_problems(5, 30) + sampled_problems(6, 8) + sampled_problems(7, 3)
     return found + [(items, ()) for items in range(1, 8)]
+
+
+def steps_of(problem):
+    """The set of the pairs of items of which the one is ahead of the other one by a constraint."""
+    return {one[1:] for one in problem[1] if one[0] == "ahead"}
+
+
+@lru_cache(maxsize=None)
+def is_cyclic(problem):
+    """Whether the problem has a cycle: some item can be reached from itself."""
+    steps = steps_of(problem)
+    reached = set(steps)
+    while True:
+        more = {(one, far) for one, other in reached for other_too, far in steps if other == other_too} - reached
+        if not more:
+            return any(one == other for one, other in reached)
+        reached |= more
+
+
+@lru_cache(maxsize=None)
+def chains_up_to(problem, most):
+    """All chains of the problem with at most so many items, the shorter ones first, then in order."""
+    steps = sorted(steps_of(problem))
+    found = layer = [(item,) for item in range(problem[0])]
+    for _ in range(most - 1):
+        layer = sorted(chain + (other,) for chain in layer for one, other in steps if one == chain[-1])
+        found = found + layer
+    return found
+
+
+def all_chains(problem):
+    """All chains of a problem that is not cyclic."""
+    return chains_up_to(problem, problem[0])
+
+
+def low_by(problem, chain):
+    """The low place that the last item has by the chain (point 24)."""
+    return max([1] + [one[2] for one in problem[1] if one[:2] == ("within", chain[0])]) + len(chain) - 1
+
+
+def high_by(problem, chain):
+    """The high place that the first item has by the chain (point 24)."""
+    return min([problem[0]] + [one[3] for one in problem[1] if one[:2] == ("within", chain[-1])]) - len(chain) + 1
+
+
+@lru_cache(maxsize=None)
+def told_windows(problem):
+    """The windows of the items of a problem that is not cyclic, by all chains (point 22)."""
+    items, chains = range(problem[0]), all_chains(problem)
+    return [
+        (
+            max(low_by(problem, chain) for chain in chains if chain[-1] == item),
+            min(high_by(problem, chain) for chain in chains if chain[0] == item),
+        )
+        for item in items
+    ]
+
+
+def told_lower(problem, item):
+    """The lower chain: read backwards, the first of those that have the earliest place."""
+    earliest = told_windows(problem)[item][0]
+    chains = [one for one in all_chains(problem) if one[-1] == item and low_by(problem, one) == earliest]
+    return min(one[::-1] for one in chains)[::-1]
+
+
+def told_upper(problem, item):
+    """The upper chain: the first of those that have the latest place."""
+    latest = told_windows(problem)[item][1]
+    return min(one for one in all_chains(problem) if one[0] == item and high_by(problem, one) == latest)
+
+
+def every_interval(items):
+    """All intervals of so many items (point 30)."""
+    return [(low, high) for low in range(1, items + 2) for high in range(0, items + 1)]
+
+
+def room(low, high):
+    """The number of the places from low to high."""
+    return len(range(low, high + 1))
+
+
+def due_items(problem, low, high):
+    """The items that are due within the interval (point 30)."""
+    windows = enumerate(told_windows(problem))
+    return tuple(item for item, (earliest, latest) in windows if earliest >= low and latest <= high)
+
+
+def is_plain_integer(value, least, most):
+    """Whether the value is an integer from least to most, and not True or False."""
+    return value.__class__ is int and least <= value <= most
+
+
+def right_chain(problem, value):
+    """Whether the value is a chain of the problem (point 20)."""
+    if value.__class__ is not tuple or not value:
+        return False
+    if not all(is_plain_integer(item, 0, problem[0] - 1) for item in value):
+        return False
+    return set(zip(value, value[1:])) <= steps_of(problem)
+
+
+def right_row(problem, low, high, row):
+    """Whether the row stands in a contradiction with the bounds (point 32)."""
+    if row.__class__ is not tuple or len(row) != 3 or not is_plain_integer(row[0], 0, problem[0] - 1):
+        return False
+    item, lower, upper = row
+    if not right_chain(problem, lower) or not right_chain(problem, upper):
+        return False
+    if lower[-1] != item or upper[0] != item:
+        return False
+    return low_by(problem, lower) >= low and high_by(problem, upper) <= high
+
+
+def right_contradiction(problem, value):
+    """Whether the value is a contradiction of the problem (point 32)."""
+    if value.__class__ is not tuple or not value or value[0].__class__ is not str:
+        return False
+    if value[0] == "cycle" and len(value) == 2:
+        return right_chain(problem, value[1]) and len(value[1]) >= 2 and value[1][0] == value[1][-1]
+    if value[0] != "overfull" or len(value) != 4:
+        return False
+    _, low, high, rows = value
+    if not is_plain_integer(low, -20, 20) or not is_plain_integer(high, -20, 20) or rows.__class__ is not tuple:
+        return False
+    if not all(right_row(problem, low, high, row) for row in rows):
+        return False
+    items = [row[0] for row in rows]
+    return items == sorted(set(items)) and len(rows) > room(low, high)
+
+
+def same(value, other):
+    """Whether the values are the same: True is not 1, and a list is not a tuple."""
+    if value.__class__ is not other.__class__:
+        return False
+    if value.__class__ is tuple:
+        return len(value) == len(other) and all(same(one, part) for one, part in zip(value, other))
+    return value == other
+
+
+def variants(value):
+    """The value changed at one place, in many ways."""
+    if value.__class__ is str:
+        return ["", value[:-1], value + "s", "cycle", "overfull", "ranking", "contradiction", "open", None, 0, (value,)]
+    if value.__class__ is not tuple:
+        return [value + 1, value - 1, value == 1, None, str(value), float(value), (value,), [value], DEEP_TUPLE]
+    found = [list(value), value + (0,), value + ((),), (value,), (), None, value[::-1], value + value, DEEP_TUPLE]
+    for at, part in enumerate(value):
+        found.append(value[:at] + value[at + 1:])
+        found.append(value[:at] + (part, part) + value[at + 1:])
+        found.append(value[:at] + value[at + 1:at + 2] + (part,) + value[at + 2:])
+        found += [value[:at] + (other,) + value[at + 1:] for other in variants(part)]
+    return found
 
 
 def name_of_wrong(case, function, *arguments):

@@ -14,6 +14,20 @@ FUNCTIONS = {
     "formed": {
         "tidied": ["problem"], "mirrored": ["problem"], "renamed": ["problem", "order"], "part": ["problem", "indexes"],
     },
+    "windows": {
+        "window": ["problem", "item"], "lower": ["problem", "item"], "upper": ["problem", "item"],
+        "accepts_low": ["problem", "item", "low", "value"], "accepts_high": ["problem", "item", "high", "value"],
+    },
+    "cycles": {"told_cycle": ["problem"], "accepts_cycle": ["problem", "value"]},
+    "contradictions": {
+        "due": ["problem", "low", "high"], "tight": ["problem"], "contradiction": ["problem"],
+        "accepts_contradiction": ["problem", "value"],
+    },
+    "rankings": {
+        "by_deadlines": ["problem"], "first_ranking": ["problem"], "last_ranking": ["problem"],
+        "can_follow": ["problem", "beginning"], "range_of": ["problem", "item"], "rankings_evidence": ["problem"],
+        "accepts_rankings": ["problem", "value"],
+    },
 }
 
 ERRORS = {

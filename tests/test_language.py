@@ -10,7 +10,7 @@ PACKAGE = pathlib.Path(__file__).resolve().parent.parent / "rankswithin"
 FILES = sorted(PACKAGE.glob("*.py"))
 BARRED_NODES = (ast.Global, ast.AsyncFunctionDef, ast.Await, ast.Import)
 BARRED_NAMES = {"register", "mro", "elements", "open", "input", "law", "os", "eval", "exec", "id", "dir", "vars"}
-BARRED_WORDS = re.compile(r"(?<![A-Za-z0-9_])(type|typing|enum|Enum|Flag|Generic|Protocol|ABC|namedtuple)(?![A-Za-z0-9_])")
+BARRED_WORDS = re.compile(r"(?<!\w)(type|typing|enum|Enum|Flag|Generic|Protocol|ABC|namedtuple)(?!\w)")
 
 
 class Language(unittest.TestCase):
