@@ -51,36 +51,55 @@ def is_good(problem, ranking):
     return all(holds(constraint, ranking) for constraint in problem[1])
 
 
+def is_good_ranking(problem, value):
+    """Tell whether the value is a ranking that is good for the problem."""
+    return is_ranking(problem[0], value) and is_good(problem, value)
+
+
 def added(problem, constraint):
     """Return the problem with one more constraint, however many it has."""
     return problem[0], problem[1] + (constraint,)
 
 
-def places(problem, ranking):
-    """Return the places of the items in the ranking."""
+def check_item(problem, item):
+    """Raise BadValue if the first argument is not a problem, or the second one not an item of it."""
+    check(is_problem(problem), "problem")
+    check(is_item(problem[0], item), "item")
+
+
+def check_ranking(problem, ranking):
+    """Raise BadValue if the first argument is not a problem, or the second one not a ranking of its items."""
     check(is_problem(problem), "problem")
     check(is_ranking(problem[0], ranking), "ranking")
+
+
+def check_constraint(problem, constraint):
+    """Raise BadValue if the first argument is not a problem, or the second one not a constraint for its items."""
+    check(is_problem(problem), "problem")
+    check(is_constraint(problem[0], constraint), "constraint")
+
+
+def places(problem, ranking):
+    """Return the places of the items in the ranking."""
+    check_ranking(problem, ranking)
     return tuple([place_of(ranking, item) for item in range(problem[0])])
 
 
 def violated(problem, ranking):
     """Return the indexes of the constraints that the ranking violates."""
-    check(is_problem(problem), "problem")
-    check(is_ranking(problem[0], ranking), "ranking")
+    check_ranking(problem, ranking)
     return tuple([index for index, constraint in enumerate(problem[1]) if not holds(constraint, ranking)])
 
 
 def satisfies(problem, ranking):
     """Tell whether the ranking is good for the problem."""
-    check(is_problem(problem), "problem")
-    check(is_ranking(problem[0], ranking), "ranking")
+    check_ranking(problem, ranking)
     return is_good(problem, ranking)
 
 
 def with_constraint(problem, constraint):
     """Return the problem with the constraint behind its own."""
-    check(is_problem(problem), "problem")
-    check(is_constraint(problem[0], constraint), "constraint")
+    check_constraint(problem, constraint)
     if len(problem[1]) == MOST_CONSTRAINTS:
         raise TooLarge("constraints")
     return added(problem, constraint)

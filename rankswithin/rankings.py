@@ -3,10 +3,10 @@
 The functions without checks of their arguments also take problems with more than 12 constraints.
 """
 
-from rankswithin.checking import are_different_items, check, is_item, is_tagged
+from rankswithin.checking import are_different_items, check, is_tagged
 from rankswithin.contradictions import find_contradiction, is_contradiction
 from rankswithin.cycles import find_cycle
-from rankswithin.problems import added, is_good, is_problem, is_ranking
+from rankswithin.problems import added, check_item, is_good, is_good_ranking, is_problem
 from rankswithin.windows import earliest_places, latest_places
 
 
@@ -40,6 +40,11 @@ def has_ranking(problem):
 def at_place(problem, item, place):
     """Return the problem in which the item also has to have the place."""
     return added(problem, ("within", item, place, place))
+
+
+def places_found(problem, item):
+    """Return the places that the item has in good rankings, ascending."""
+    return [place for place in range(1, problem[0] + 1) if has_ranking(at_place(problem, item, place))]
 
 
 def beginning_with(problem, beginning):
@@ -95,9 +100,8 @@ def can_follow(problem, beginning):
 
 def range_of(problem, item):
     """Return the least and the greatest place of the item in good rankings, or None if no ranking is good."""
-    check(is_problem(problem), "problem")
-    check(is_item(problem[0], item), "item")
-    found = [place for place in range(1, problem[0] + 1) if has_ranking(at_place(problem, item, place))]
+    check_item(problem, item)
+    found = places_found(problem, item)
     return (found[0], found[-1]) if found else None
 
 
@@ -114,7 +118,7 @@ def accepts_rankings(problem, value):
     """Tell whether the value is evidence that some ranking is good, or that none is."""
     check(is_problem(problem), "problem")
     if is_tagged(value, "ranking", 2):
-        return is_ranking(problem[0], value[1]) and is_good(problem, value[1])
+        return is_good_ranking(problem, value[1])
     if is_tagged(value, "contradiction", 2):
         return is_contradiction(problem, value[1])
     return False

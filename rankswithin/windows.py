@@ -3,9 +3,9 @@
 The functions without checks of their arguments also take problems with more than 12 constraints.
 """
 
-from rankswithin.checking import check, is_bound, is_item
+from rankswithin.checking import check, is_bound
 from rankswithin.cycles import ahead_of, behind, is_chain, refuse_cyclic
-from rankswithin.problems import is_problem
+from rankswithin.problems import check_item
 
 
 def given_low(problem, item):
@@ -81,12 +81,6 @@ def proves_high(problem, item, high, value):
     if not is_chain(problem, value) or value[0] != item:
         return False
     return given_high(problem, value[-1]) - (len(value) - 1) <= high
-
-
-def check_item(problem, item):
-    """Raise BadValue if the first argument is not a problem, or the second one not an item of it."""
-    check(is_problem(problem), "problem")
-    check(is_item(problem[0], item), "item")
 
 
 def window(problem, item):

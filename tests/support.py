@@ -270,6 +270,74 @@ def right_contradiction(problem, value):
     return items == sorted(set(items)) and len(rows) > room(low, high)
 
 
+def told_contradiction(problem):
+    """The told contradiction of a problem, step by step (points 21 and 33), or None if some ranking is good."""
+    if is_cyclic(problem):
+        # The chains stand by their length, and then in order.
+        return "cycle", next(one for one in chains_up_to(problem, problem[0] + 1) if len(one) > 1 and one[0] == one[-1])
+    for low, high in every_interval(problem[0]):
+        items = due_items(problem, low, high)
+        if len(items) > room(low, high):
+            rows = tuple((item, told_lower(problem, item), told_upper(problem, item)) for item in items)
+            return "overfull", low, high, rows
+    return None
+
+
+def rows_by_others(problem, low, high, chains):
+    """Rows for all items of which some chain shows that they are due: with the last chains that do so."""
+    rows = []
+    for item in range(problem[0]):
+        below = [chain for chain in chains if chain[-1] == item and low_by(problem, chain) >= low]
+        above = [chain for chain in chains if chain[0] == item and high_by(problem, chain) <= high]
+        if below and above:
+            rows.append((item, below[-1], above[-1]))
+    return tuple(rows)
+
+
+def contradictions_by_others(problem):
+    """Contradictions of the problem that are not the told one, if it has some."""
+    found = []
+    chains = chains_up_to(problem, 4)
+    found += [("cycle", chain) for chain in chains if len(chain) > 1 and chain[0] == chain[-1]]
+    for low in range(-1, problem[0] + 3):
+        for high in range(-1, problem[0] + 3):
+            rows = rows_by_others(problem, low, high, chains)
+            if len(rows) > room(low, high):
+                found.append(("overfull", low, high, rows))
+    return found
+
+
+def place_by_place(problem):
+    """The ranking by deadlines of a problem that is not cyclic, or None if some place stays empty (point 42)."""
+    windows, ranking = told_windows(problem), []
+    for place in range(1, problem[0] + 1):
+        ready = [(windows[item][1], item) for item in range(problem[0]) if windows[item][0] <= place]
+        ready = [one for one in ready if one[1] not in ranking]
+        if not ready:
+            return None
+        ranking.append(min(ready)[1])
+    return tuple(ranking)
+
+
+def right_ranking(problem, value):
+    """Whether the value is a good ranking of the problem."""
+    if value.__class__ is not tuple or len(value) != problem[0]:
+        return False
+    if not all(is_plain_integer(item, 0, problem[0] - 1) for item in value):
+        return False
+    return len(set(value)) == problem[0] and all(value in satisfying(problem[0], one) for one in problem[1])
+
+
+def plus(problem, *constraints):
+    """The problem with constraints behind its own, also more than 12."""
+    return problem[0], problem[1] + constraints
+
+
+def beginnings(items):
+    """All beginnings of so many items."""
+    return [one for many in range(items + 1) for one in permutations(range(items), many)]
+
+
 def same(value, other):
     """Whether the values are the same: True is not 1, and a list is not a tuple."""
     if value.__class__ is not other.__class__:

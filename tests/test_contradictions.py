@@ -6,9 +6,9 @@ from itertools import permutations, product
 from rankswithin.contradictions import accepts_contradiction, contradiction, due, tight
 from rankswithin.formed import mirrored, part
 from support import (
-    NO_PROBLEMS, ODD_VALUES, all_chains, chains_up_to, due_items, every_interval, good_rankings, high_by, is_cyclic,
-    low_by, name_of_wrong, not_possible, right_contradiction, room, sampled_problems, small_problems, tiny_problems,
-    told_lower, told_upper, told_windows, variants,
+    NO_PROBLEMS, ODD_VALUES, all_chains, chains_up_to, due_items, every_interval, good_rankings, is_cyclic,
+    name_of_wrong, not_possible, right_contradiction, room, rows_by_others, sampled_problems, small_problems,
+    tiny_problems, told_contradiction, told_windows, variants,
 )
 
 THREE = (3, (("within", 0, 1, 2), ("within", 1, 1, 2), ("within", 2, 1, 2)))
@@ -25,17 +25,6 @@ def open_problems():
 def hopeless_problems():
     """The small problems without a good ranking."""
     return [problem for problem in small_problems() if not good_rankings(problem)]
-
-
-def rows_by_others(problem, low, high, chains):
-    """Rows for all items of which some chain shows that they are due: with the last chains that do so."""
-    rows = []
-    for item in range(problem[0]):
-        below = [chain for chain in chains if chain[-1] == item and low_by(problem, chain) >= low]
-        above = [chain for chain in chains if chain[0] == item and high_by(problem, chain) <= high]
-        if below and above:
-            rows.append((item, below[-1], above[-1]))
-    return tuple(rows)
 
 
 class Due(unittest.TestCase):
@@ -106,24 +95,14 @@ class Tight(unittest.TestCase):
 
 
 class ToldContradiction(unittest.TestCase):
-    def expected(self, problem):
-        """The told contradiction of a problem that is not cyclic, step by step (point 33)."""
-        for low, high in every_interval(problem[0]):
-            items = due_items(problem, low, high)
-            if len(items) > room(low, high):
-                rows = tuple((item, told_lower(problem, item), told_upper(problem, item)) for item in items)
-                return ("overfull", low, high, rows)
-        return None
-
     def test_point_33_step_by_step(self):
         for problem in open_problems():
-            self.assertEqual(contradiction(problem), self.expected(problem), problem)
+            self.assertEqual(contradiction(problem), told_contradiction(problem), problem)
 
     def test_point_33_cyclic_problems(self):
         for problem in small_problems():
             if is_cyclic(problem):
-                cycles = [one for one in chains_up_to(problem, problem[0] + 1) if len(one) > 1 and one[0] == one[-1]]
-                self.assertEqual(contradiction(problem), ("cycle", cycles[0]))
+                self.assertEqual(contradiction(problem), told_contradiction(problem))
 
     def test_point_33_a_cycle_comes_before_an_interval(self):
         problem = (3, THREE[1] + ROUND[1])

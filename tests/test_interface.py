@@ -28,6 +28,16 @@ FUNCTIONS = {
         "can_follow": ["problem", "beginning"], "range_of": ["problem", "item"], "rankings_evidence": ["problem"],
         "accepts_rankings": ["problem", "value"],
     },
+    "verdicts": {
+        "verdict": ["problem", "constraint"], "verdict_evidence": ["problem", "constraint"],
+        "accepts_verdict": ["problem", "constraint", "value"], "negation": ["problem", "constraint"],
+    },
+    "certain": {"places": ["problem", "item"], "certainly_ahead": ["problem"], "certain_order": ["problem"]},
+    "counting": {
+        "count_rankings": ["problem"], "count_beginning": ["problem", "beginning"], "nth_ranking": ["problem", "index"],
+        "index_of_ranking": ["problem", "ranking"], "next_ranking": ["problem", "ranking"],
+    },
+    "shares": {"place_counts": ["problem", "item"], "count_ahead": ["problem", "one", "other"]},
 }
 
 ERRORS = {

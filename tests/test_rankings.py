@@ -1,7 +1,6 @@
 """Points 1 and 42 to 52: good rankings."""
 
 import unittest
-from itertools import permutations
 
 from rankswithin.contradictions import contradiction
 from rankswithin.formed import mirrored, part
@@ -10,31 +9,14 @@ from rankswithin.rankings import (
     accepts_rankings, by_deadlines, can_follow, first_ranking, last_ranking, range_of, rankings_evidence,
 )
 from support import (
-    NO_PROBLEMS, NO_RANKINGS_OF_THREE, ODD_VALUES, all_rankings, every_constraint, good_rankings, is_cyclic, meets,
-    name_of_wrong, right_contradiction, same, sampled_problems, small_problems, threes, tiny_problems, told_windows,
-    variants,
+    NO_PROBLEMS, NO_RANKINGS_OF_THREE, ODD_VALUES, all_rankings, beginnings, every_constraint, good_rankings, is_cyclic,
+    meets, name_of_wrong, place_by_place, right_contradiction, same, sampled_problems, small_problems, threes,
+    tiny_problems, told_windows, variants,
 )
 
 THREE = (3, (("within", 2, 1, 2), ("ahead", 2, 0)))
 NONE = (2, (("ahead", 0, 1), ("within", 1, 1, 1)))
 ROUND = (2, (("ahead", 0, 1), ("ahead", 1, 0)))
-
-
-def beginnings(items):
-    """All beginnings of so many items."""
-    return [one for many in range(items + 1) for one in permutations(range(items), many)]
-
-
-def place_by_place(problem):
-    """The ranking by deadlines of a problem that is not cyclic, or None if some place stays empty (point 42)."""
-    windows, ranking = told_windows(problem), []
-    for place in range(1, problem[0] + 1):
-        ready = [(windows[item][1], item) for item in range(problem[0]) if windows[item][0] <= place]
-        ready = [one for one in ready if one[1] not in ranking]
-        if not ready:
-            return None
-        ranking.append(min(ready)[1])
-    return tuple(ranking)
 
 
 def follows_deadlines(problem, ranking):
