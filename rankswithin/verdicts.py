@@ -29,7 +29,7 @@ def find_verdict(problem, constraint):
     """Return the verdict on the constraint."""
     if not has_ranking(problem):
         return "none"
-    if not any(has_ranking(denial) for denial in denials(problem, constraint)):
+    if not any([has_ranking(denial) for denial in denials(problem, constraint)]):
         return "certain"
     return "open" if has_ranking(added(problem, constraint)) else "impossible"
 
@@ -40,7 +40,7 @@ def find_evidence(problem, constraint):
     if word == "none":
         return "none", find_contradiction(problem)
     if word == "certain":
-        found = tuple(find_contradiction(denial) for denial in denials(problem, constraint))
+        found = tuple([find_contradiction(denial) for denial in denials(problem, constraint)])
         return "certain", ranking_by_deadlines(problem), found
     if word == "impossible":
         return "impossible", ranking_by_deadlines(problem), find_contradiction(added(problem, constraint))
@@ -52,7 +52,7 @@ def contradict_each(problems, value):
     """Tell whether the value has a contradiction for each of the problems, in their sequence."""
     if not isinstance(value, tuple) or len(value) != len(problems):
         return False
-    return all(is_contradiction(problem, one) for problem, one in zip(problems, value))
+    return all([is_contradiction(problem, one) for problem, one in zip(problems, value)])
 
 
 def are_apart(problem, constraint, one, other):

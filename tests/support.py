@@ -333,6 +333,54 @@ def plus(problem, *constraints):
     return problem[0], problem[1] + constraints
 
 
+def swap(ranking, one, other):
+    """The ranking with the two items exchanged (point 76)."""
+    return tuple(other if item == one else one if item == other else item for item in ranking)
+
+
+def pairs_of(problem):
+    """The pairs of items of the problem, the lesser one first."""
+    return list(combinations(range(problem[0]), 2))
+
+
+def between(problem, one, other):
+    """The indexes of the "ahead" constraints between the two items."""
+    return [index for index, row in enumerate(problem[1]) if row[0] == "ahead" and {one, other} == set(row[1:])]
+
+
+def merging(problem, one, other):
+    """The merged problem, constraint by constraint (point 80)."""
+    more = []
+    for row in problem[1]:
+        places = (1,) if row[0] == "within" else (1, 2)
+        if sum(row[at] in (one, other) for at in places) == 1:
+            turn = {one: other, other: one}
+            more.append(tuple(turn.get(part, part) if at in places else part for at, part in enumerate(row)))
+    return plus(problem, *more)
+
+
+@lru_cache(maxsize=None)
+def told_exchangeable(problem):
+    """The exchangeable pairs, by all good rankings (point 79)."""
+    good = set(good_rankings(problem))
+    return [pair for pair in pairs_of(problem) if any(swap(ranking, *pair) in good for ranking in good)]
+
+
+def right_pair(problem, one, other, value):
+    """Whether the value is evidence about the two items (point 81)."""
+    if value.__class__ is not tuple or len(value) != 2 or value[0].__class__ is not str:
+        return False
+    word, part = value
+    if word == "both":
+        return right_ranking(problem, part) and swap(part, one, other) in good_rankings(problem)
+    if word == "ahead":
+        many = len(problem[1])
+        return is_plain_integer(part, 0, many - 1) and part in between(problem, one, other)
+    if word == "never":
+        return not between(problem, one, other) and right_contradiction(merging(problem, one, other), part)
+    return False
+
+
 def beginnings(items):
     """All beginnings of so many items."""
     return [one for many in range(items + 1) for one in permutations(range(items), many)]

@@ -38,6 +38,20 @@ FUNCTIONS = {
         "index_of_ranking": ["problem", "ranking"], "next_ranking": ["problem", "ranking"],
     },
     "shares": {"place_counts": ["problem", "item"], "count_ahead": ["problem", "one", "other"]},
+    "exchanges": {
+        "exchanged": ["problem", "ranking", "one", "other"], "distance": ["problem", "first", "second"],
+        "told_path": ["problem", "first", "second"], "accepts_path": ["problem", "first", "second", "value"],
+        "exchanges_in": ["problem", "ranking"],
+    },
+    "pairs": {
+        "merged": ["problem", "one", "other"], "exchangeable": ["problem"], "components": ["problem"],
+        "pair_evidence": ["problem", "one", "other"], "accepts_pair": ["problem", "one", "other", "value"],
+    },
+    "observing": {
+        "tells_all": ["problem", "seen"], "tells_item": ["problem", "seen", "item"], "smallest": ["problem"],
+        "seen_evidence": ["problem", "seen"], "accepts_seen": ["problem", "seen", "value"],
+        "smallest_evidence": ["problem", "seen"], "accepts_smallest": ["problem", "seen", "value"],
+    },
 }
 
 ERRORS = {

@@ -8,6 +8,8 @@ import unittest
 
 PACKAGE = pathlib.Path(__file__).resolve().parent.parent / "rankswithin"
 FILES = sorted(PACKAGE.glob("*.py"))
+# What may be imported from outside of the package (L2).
+LIBRARY = {"heapq": {"heappush", "heappop"}, "math": {"comb", "factorial"}, "itertools": {"combinations"}}
 BARRED_NODES = (ast.Global, ast.AsyncFunctionDef, ast.Await, ast.Import)
 BARRED_NAMES = {"register", "mro", "elements", "open", "input", "law", "os", "eval", "exec", "id", "dir", "vars"}
 BARRED_WORDS = re.compile(r"(?<!\w)(type|typing|enum|Enum|Flag|Generic|Protocol|ABC|namedtuple)(?!\w)")
@@ -27,9 +29,20 @@ class Language(unittest.TestCase):
         for name, tree in self.trees():
             for node in ast.walk(tree):
                 if isinstance(node, ast.ImportFrom):
+                    words = {alias.name for alias in node.names}
                     self.assertEqual(node.level, 0, name)
-                    self.assertTrue(node.module.startswith("rankswithin."), name)
-                    self.assertNotIn("*", [alias.name for alias in node.names])
+                    self.assertNotIn("*", words)
+                    if not node.module.startswith("rankswithin."):
+                        self.assertLessEqual(words, LIBRARY.get(node.module, set()), name)
+                        self.assertEqual([alias.asname for alias in node.names if alias.asname], [], name)
+
+    def test_L2_what_comes_from_the_library_is_only_called(self):
+        for name, tree in self.trees():
+            library = {alias.name for node in imports_of(tree) if node.module in LIBRARY for alias in node.names}
+            called = [node.func for node in ast.walk(tree) if isinstance(node, ast.Call)]
+            for node in ast.walk(tree):
+                if isinstance(node, ast.Name) and node.id in library:
+                    self.assertIn(node, called, (name, node.id))
 
     def test_L2_imports_stand_at_the_top(self):
         for name, tree in self.trees():
@@ -39,8 +52,8 @@ class Language(unittest.TestCase):
     def test_L16_no_files_import_from_each_other(self):
         wanted = {}
         for name, tree in self.trees():
-            imports = [node.module for node in tree.body if isinstance(node, ast.ImportFrom)]
-            wanted[name] = {f"{module.split('.')[1]}.py" for module in imports}
+            modules = [node.module for node in imports_of(tree) if node.module not in LIBRARY]
+            wanted[name] = {f"{module.split('.')[1]}.py" for module in modules}
         while wanted:
             ready = [name for name, others in wanted.items() if not others & set(wanted)]
             self.assertNotEqual(ready, [], f"a cycle among {sorted(wanted)}")
@@ -76,7 +89,7 @@ class Language(unittest.TestCase):
 
     def test_L15_no_name_of_a_builtin_or_an_import_is_given_another_meaning(self):
         for name, tree in self.trees():
-            imported = [alias.name for node in tree.body if isinstance(node, ast.ImportFrom) for alias in node.names]
+            imported = [alias.name for node in imports_of(tree) for alias in node.names]
             for word in bound_names(tree):
                 self.assertFalse(hasattr(builtins, word) and word[0] != "_", (name, word))
                 self.assertNotIn(word, imported, name)
@@ -92,6 +105,11 @@ class Language(unittest.TestCase):
             for node in ast.walk(tree):
                 if isinstance(node, ast.Constant) and isinstance(node.value, str):
                     self.assertNotIn("%", node.value, name)
+
+
+def imports_of(tree):
+    """The imports at the top of a file."""
+    return [node for node in tree.body if isinstance(node, ast.ImportFrom)]
 
 
 def bound_names(tree):

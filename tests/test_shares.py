@@ -67,7 +67,7 @@ class CountAhead(unittest.TestCase):
 
     def test_point_69_twelve_constraints(self):
         problem = (4, FOUR[1] * 4)
-        self.assertEqual((count_ahead(problem, 3, 1), count_ahead(problem, 1, 3), count_ahead(problem, 0, 3)), (2, 3, 5))
+        self.assertEqual([count_ahead(problem, *pair) for pair in ((3, 1), (1, 3), (0, 3))], [2, 3, 5])
 
     def test_point_69_without_a_good_ranking(self):
         self.assertEqual((count_ahead(NONE, 0, 1), count_ahead(ROUND, 0, 1), count_ahead(ROUND, 1, 2)), (0, 0, 0))

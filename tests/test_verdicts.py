@@ -18,7 +18,8 @@ WORDS = ("none", "certain", "impossible", "open")
 
 NO_CONSTRAINTS_OF_THREE = [
     ("within", 0, 1), ("within", 0, 1, 4), ("within", 0, 0, 1), ("within", 0, 2, 1), ("within", 3, 1, 1),
-    ("within", -1, 1, 1), ("within", 0, 1, 1, 1), ("within", False, 1, 1), ("within", 0, True, 1), ("within", 0, 1, True),
+    ("within", -1, 1, 1), ("within", 0, 1, 1, 1), ("within", False, 1, 1), ("within", 0, True, 1),
+    ("within", 0, 1, True),
     ("within", 0.0, 1, 1), ("within", "0", 1, 1), ["within", 0, 1, 1], ("ahead", 0, 0), ("ahead", 0, 3), ("ahead", 0),
     ("ahead", -1, 0), ("ahead", 0, 1, 2), ("ahead", False, 1), ("ahead", 0, True), ["ahead", 0, 1], ("behind", 0, 1),
     ("ahead", [0], 1), ("within", 0, None, 1), (("ahead", 0, 1),), (("ahead",), 0, 1), ("AHEAD", 0, 1), "ahead",
