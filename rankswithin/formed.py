@@ -27,6 +27,19 @@ def renamed_constraint(constraint, order):
     return "ahead", order[one], order[other]
 
 
+def part_with(problem, indexes):
+    """Return the problem with the constraints of these indexes alone."""
+    items, constraints = problem
+    return items, tuple([constraints[index] for index in indexes])
+
+
+def check_indexes(problem, indexes):
+    """Raise BadValue if the first argument is not a problem, or the second one not ascending indexes of it."""
+    check(is_problem(problem), "problem")
+    # Indexes have the form of items: the integers from 0 on, as many as there are constraints.
+    check(are_items(len(problem[1]), indexes) and is_ascending(indexes), "indexes")
+
+
 def tidied(problem):
     """Return the problem with its constraints in order, each once."""
     check(is_problem(problem), "problem")
@@ -50,8 +63,5 @@ def renamed(problem, order):
 
 def part(problem, indexes):
     """Return the problem with the constraints of these indexes alone."""
-    check(is_problem(problem), "problem")
-    items, constraints = problem
-    # Indexes have the form of items: the integers from 0 on, as many as there are constraints.
-    check(are_items(len(constraints), indexes) and is_ascending(indexes), "indexes")
-    return items, tuple(constraints[index] for index in indexes)
+    check_indexes(problem, indexes)
+    return part_with(problem, indexes)

@@ -7,7 +7,7 @@ import random
 from functools import lru_cache
 from itertools import combinations, combinations_with_replacement, permutations
 
-from rankswithin.errors import BadValue, NotPossible, TooLarge
+from rankswithin.errors import BadValue, NotPossible, TextError, TooLarge
 
 
 def nested(depth, kind):
@@ -140,6 +140,23 @@ def small_problems():
     found = tiny_problems() + threes() + sampled_problems(3, 100) + sampled_problems(4, 100)
     found = found + sampled_problems(5, 30) + sampled_problems(6, 8) + sampled_problems(7, 3)
     return found + [(items, ()) for items in range(1, 8)]
+
+
+def few_constraints(problems):
+    """Those of the problems that have at most ten constraints."""
+    return [problem for problem in problems if len(problem[1]) <= 10]
+
+
+@lru_cache(maxsize=None)
+def full_problems():
+    """Problems with twelve constraints: also such that are put together of two."""
+    found = []
+    for items, many in ((3, 40), (4, 40), (5, 20), (6, 8), (7, 3)):
+        problems = sampled_problems(items, many)
+        found += [problem for problem in problems if len(problem[1]) == 12]
+        both = [one[1] + other[1] for one, other in zip(problems, problems[1:])]
+        found += [(items, constraints[:12]) for constraints in both if len(constraints) >= 12]
+    return found
 
 
 def steps_of(problem):
@@ -333,6 +350,45 @@ def plus(problem, *constraints):
     return problem[0], problem[1] + constraints
 
 
+def take(problem, indexes):
+    """The part with these constraints (point 15)."""
+    return problem[0], tuple(problem[1][index] for index in indexes)
+
+
+def every_part(problem):
+    """All ascending tuples of indexes of the constraints, the shorter ones first."""
+    indexes = range(len(problem[1]))
+    return [one for size in range(len(indexes) + 1) for one in combinations(indexes, size)]
+
+
+@lru_cache(maxsize=None)
+def violations(problem):
+    """The sets of the indexes of the constraints that some ranking violates, each once."""
+    items, constraints = problem
+    wrong = {ranking: [] for ranking in all_rankings(items)}
+    for index, one in enumerate(constraints):
+        for ranking in set(wrong) - satisfying(items, one):
+            wrong[ranking].append(index)
+    return sorted(set(map(tuple, wrong.values())))
+
+
+@lru_cache(maxsize=None)
+def told_corrections(problem):
+    """The corrections: the least of the sets that rankings violate (points 102 and 105)."""
+    sets = [set(one) for one in violations(problem)]
+    return [one for one in violations(problem) if not any(other < set(one) for other in sets)]
+
+
+@lru_cache(maxsize=None)
+def told_conflicts(problem):
+    """The conflicts, part by part: a part has a good ranking if some ranking violates none of it (point 99)."""
+    wrong, found = [set(one) for one in told_corrections(problem)], []
+    for indexes in every_part(problem):
+        if all(one & set(indexes) for one in wrong) and not any(set(one) <= set(indexes) for one in found):
+            found.append(indexes)
+    return sorted(found)
+
+
 def swap(ranking, one, other):
     """The ranking with the two items exchanged (point 76)."""
     return tuple(other if item == one else one if item == other else item for item in ranking)
@@ -432,6 +488,26 @@ def not_possible(case, function, *arguments):
     return caught.exception.why
 
 
+def text_error(case, function, *arguments):
+    """The column and the words of the TextError that the call raises."""
+    with case.assertRaises(TextError) as caught:
+        function(*arguments)
+    case.assertIs(caught.exception.__class__, TextError)
+    return caught.exception.column, caught.exception.words
+
+
+def no_indexes(many):
+    """Values that are no ascending tuple of indexes of so many constraints."""
+    found = [value for value in ODD_VALUES if value != () and not (many > 7 and value == (7,))]
+    found += [(many,), (-1,), (0, many), (-1, 0), (0, 0), (False,), (0.0,), ("0",), (None,), [], [0], "0", 0, None]
+    if many > 0:
+        last = many - 1
+        found += [(last, last), (last, many), (last, 0), (True,), (last + 0.0,), [last], last, {last}, ((last,),)]
+    if many > 1:
+        found += [(1, 0), (0, True), (False, 1), (0, 1, 1), (0, 0, 1), [0, 1], tuple(range(many))[::-1]]
+    return found
+
+
 # Values that are no problem.
 NO_PROBLEMS = [
     None, 3, "problem", (), (3,), (3, (), ()), [3, ()], (3, []), (True, ()), (0, ()), (8, ()), (-1, ()), ("3", ()),
@@ -446,4 +522,17 @@ NO_PROBLEMS = [
 NO_RANKINGS_OF_THREE = [
     None, 0, "012", [0, 1, 2], [], (0, 1, 3), (0, 1, -1), (0, 1, 1), (False, True, 2), (0, 1, "2"), (0, 1, None),
     (0, 1, 2, 3), (0, 1, 2, 0), ((0, 1, 2),), (0, 1, 2.0), ([0], [1], [2]), DEEP_TUPLE, DEEP_LIST,
+]
+
+# Values that are no names.
+NO_NAMES = [value for value in ODD_VALUES if value not in (("within",), ("ahead",), ("cycle",), ("overfull",))] + [
+    ["ann"], ["ann", "bob", "cid"], "ann", ("",), ("ann", ""), ("Ann",), ("ann", "bob", "ann"), ("ninechars",),
+    ("a b",), ("a1",), ("ann", None), ("ann", 1), ("ann", b"bob"), (b"ann",), ("ann", ["bob"]), ("ann", ("bob",)),
+    (("ann",),), tuple("abcdefgh"), {"ann": 0}, ("ann", True), ("\u00e9",), ("ann\n",), ("ann", DEEP_TUPLE),
+]
+
+# Values that are no texts.
+NO_TEXTS = [value for value in ODD_VALUES if not isinstance(value, str)] + [
+    " " * 501, "a" * 501, "a\n", "\n", "ann\nbob", "\n" * 500, "a 1..2;" * 72, b"ann", ["ann"], ("ann",), None, 1,
+    " " * 500 + "\n", "ann < bob\r\n", bytearray(b"ann"), DEEP_TUPLE, DEEP_LIST,
 ]

@@ -52,6 +52,16 @@ FUNCTIONS = {
         "seen_evidence": ["problem", "seen"], "accepts_seen": ["problem", "seen", "value"],
         "smallest_evidence": ["problem", "seen"], "accepts_smallest": ["problem", "seen", "value"],
     },
+    "conflicts": {
+        "conflicts": ["problem"], "told_conflict": ["problem"], "conflict_evidence": ["problem", "indexes"],
+        "accepts_conflict": ["problem", "indexes", "value"],
+    },
+    "corrections": {
+        "corrections": ["problem"], "least_correction": ["problem"], "blameless": ["problem"],
+        "correction_evidence": ["problem", "indexes"], "accepts_correction": ["problem", "indexes", "value"],
+    },
+    "naming": {"are_names": ["value"]},
+    "scanning": {"scan": ["text"]},
 }
 
 ERRORS = {
