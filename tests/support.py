@@ -10,6 +10,9 @@ from itertools import combinations, combinations_with_replacement, permutations
 from rankswithin.errors import BadValue, NotPossible, TextError, TooLarge
 
 
+VERDICTS = ("none", "certain", "impossible", "open")
+
+
 def nested(depth, kind):
     """A tuple or a list that is nested so deep that no recursion gets through it."""
     value = kind()
@@ -389,6 +392,61 @@ def told_conflicts(problem):
     return sorted(found)
 
 
+def denying(items, constraint):
+    """The negation of the constraint, as point 53 says."""
+    if constraint[0] == "ahead":
+        return (("ahead", constraint[2], constraint[1]),)
+    word, item, low, high = constraint
+    found = []
+    if low > 1:
+        found.append((word, item, 1, low - 1))
+    if high < items:
+        found.append((word, item, high + 1, items))
+    return tuple(found)
+
+
+def told_verdict(problem, constraint):
+    """The verdict on the constraint by all good rankings (point 54)."""
+    met = [meets(ranking, constraint) for ranking in good_rankings(problem)]
+    if not met:
+        return "none"
+    return "certain" if all(met) else "open" if any(met) else "impossible"
+
+
+def told_evidence(problem, constraint):
+    """The told evidence, step by step (point 56)."""
+    word = told_verdict(problem, constraint)
+    if word == "none":
+        return word, told_contradiction(problem)
+    denied = [plus(problem, one) for one in denying(problem[0], constraint)]
+    if word == "certain":
+        return word, place_by_place(problem), tuple(told_contradiction(one) for one in denied)
+    behind = plus(problem, constraint)
+    if word == "impossible":
+        return word, place_by_place(problem), told_contradiction(behind)
+    return word, place_by_place(behind), next(place_by_place(one) for one in denied if good_rankings(one))
+
+
+def right_verdict(problem, constraint, value):
+    """Whether the value is evidence of a verdict on the constraint (point 55)."""
+    if value.__class__ is not tuple or not value or value[0].__class__ is not str:
+        return False
+    word, parts = value[0], value[1:]
+    if word == "none":
+        return len(parts) == 1 and right_contradiction(problem, parts[0])
+    if word not in VERDICTS or len(parts) != 2 or not right_ranking(problem, parts[0]):
+        return False
+    if word == "certain":
+        denied = [plus(problem, one) for one in denying(problem[0], constraint)]
+        if parts[1].__class__ is not tuple or len(parts[1]) != len(denied):
+            return False
+        return all(right_contradiction(one, other) for one, other in zip(denied, parts[1]))
+    if word == "impossible":
+        return right_contradiction(plus(problem, constraint), parts[1])
+    good = right_ranking(problem, parts[1])
+    return good and meets(parts[0], constraint) and not meets(parts[1], constraint)
+
+
 def swap(ranking, one, other):
     """The ranking with the two items exchanged (point 76)."""
     return tuple(other if item == one else one if item == other else item for item in ranking)
@@ -522,6 +580,16 @@ NO_PROBLEMS = [
 NO_RANKINGS_OF_THREE = [
     None, 0, "012", [0, 1, 2], [], (0, 1, 3), (0, 1, -1), (0, 1, 1), (False, True, 2), (0, 1, "2"), (0, 1, None),
     (0, 1, 2, 3), (0, 1, 2, 0), ((0, 1, 2),), (0, 1, 2.0), ([0], [1], [2]), DEEP_TUPLE, DEEP_LIST,
+]
+
+# Values that are no constraint for three items.
+NO_CONSTRAINTS_OF_THREE = [
+    ("within", 0, 1), ("within", 0, 1, 4), ("within", 0, 0, 1), ("within", 0, 2, 1), ("within", 3, 1, 1),
+    ("within", -1, 1, 1), ("within", 0, 1, 1, 1), ("within", False, 1, 1), ("within", 0, True, 1),
+    ("within", 0, 1, True),
+    ("within", 0.0, 1, 1), ("within", "0", 1, 1), ["within", 0, 1, 1], ("ahead", 0, 0), ("ahead", 0, 3), ("ahead", 0),
+    ("ahead", -1, 0), ("ahead", 0, 1, 2), ("ahead", False, 1), ("ahead", 0, True), ["ahead", 0, 1], ("behind", 0, 1),
+    ("ahead", [0], 1), ("within", 0, None, 1), (("ahead", 0, 1),), (("ahead",), 0, 1), ("AHEAD", 0, 1), "ahead",
 ]
 
 # Values that are no names.

@@ -3,6 +3,7 @@
 import doctest
 import importlib
 import inspect
+import pathlib
 import unittest
 
 FUNCTIONS = {
@@ -62,6 +63,17 @@ FUNCTIONS = {
     },
     "naming": {"are_names": ["value"]},
     "scanning": {"scan": ["text"]},
+    "reading": {
+        "next_tokens": ["text", "kind"], "read_problem": ["names", "text"], "read_ranking": ["names", "text"],
+    },
+    "writing": {"problem_text": ["names", "problem"], "ranking_text": ["names", "ranking"]},
+    "journals": {"replayed": ["items", "journal"], "are_right": ["items", "records"]},
+}
+
+METHODS = {
+    "__init__": ["self", "items"], "act": ["self", "command"], "undo": ["self"], "entries": ["self"],
+    "problem": ["self"], "journal": ["self"], "watches": ["self"], "outcome": ["self", "watch"], "records": ["self"],
+    "twin": ["self"],
 }
 
 ERRORS = {
@@ -94,6 +106,22 @@ class Names(unittest.TestCase):
             self.assertEqual(error.__module__, "rankswithin.errors")
             if arguments is not None:
                 self.assertEqual(list(inspect.signature(error).parameters), arguments)
+
+    def test_point_8_the_class_and_its_methods_stand_in_their_file(self):
+        module = importlib.import_module("rankswithin.notebook")
+        self.assertTrue(inspect.isclass(module.Notebook))
+        self.assertEqual(module.Notebook.__module__, "rankswithin.notebook")
+        self.assertEqual(list(inspect.signature(module.Notebook).parameters), ["items"])
+        for name, arguments in METHODS.items():
+            # In the class itself, not only in a base class.
+            self.assertIn(name, vars(module.Notebook))
+            self.assertEqual(list(inspect.signature(vars(module.Notebook)[name]).parameters), arguments)
+
+    def test_point_8_the_package_has_no_other_files_with_promises(self):
+        package = importlib.import_module("rankswithin")
+        folder = pathlib.Path(package.__file__).parent
+        files = {path.stem for path in folder.glob("*.py")}
+        self.assertEqual(files, set(FUNCTIONS) | {"errors", "notebook", "checking", "__init__"})
 
 
 if __name__ == "__main__":

@@ -95,6 +95,28 @@ class Language(unittest.TestCase):
                 self.assertNotIn(word, imported, name)
                 self.assertNotIn(word, BARRED_NAMES, name)
 
+    def test_L3_and_L15_what_stands_at_module_level(self):
+        for name, tree in self.trees():
+            for node in tree.body[1:]:
+                self.assertIsInstance(node, (ast.ImportFrom, ast.FunctionDef, ast.ClassDef, ast.Assign), name)
+                if isinstance(node, ast.Assign):
+                    self.assertIsInstance(node.targets[0], ast.Name, name)
+                    inside = [part for part in ast.walk(node.value) if part is not node.value]
+                    self.assertFalse(any(isinstance(part, (ast.List, ast.Dict, ast.Name, ast.Call)) for part in inside))
+                    self.assertNotIsInstance(node.value, (ast.Name, ast.Call), name)
+
+    def test_L18_and_L26_methods_and_attributes(self):
+        for name, tree in self.trees():
+            for node in tree.body:
+                if isinstance(node, ast.ClassDef):
+                    methods = [part.name for part in node.body if isinstance(part, ast.FunctionDef)]
+                    stored = {part.attr for part in ast.walk(node)
+                              if isinstance(part, ast.Attribute) and isinstance(part.ctx, ast.Store)}
+                    self.assertEqual(len(set(methods)), len(methods), name)
+                    self.assertEqual(stored & set(methods), set(), name)
+                    for word in stored:
+                        self.assertFalse(any(hasattr(value, word) for value in ("", 0, [], {}, (), set(), b"")), word)
+
     def test_L17_words(self):
         for name, tree in self.trees():
             strip_docstrings(tree)

@@ -6,79 +6,15 @@ from collections import Counter
 
 from rankswithin.verdicts import accepts_verdict, negation, verdict, verdict_evidence
 from support import (
-    DEEP_LIST, DEEP_TUPLE, NO_PROBLEMS, ODD_VALUES, OTHER_DEEP_TUPLE, all_rankings, contradictions_by_others,
-    every_constraint, good_rankings, is_cyclic, meets, name_of_wrong, place_by_place, plus, right_contradiction,
-    right_ranking, sampled_problems, satisfying, small_problems, threes, tiny_problems, told_contradiction, variants,
+    DEEP_LIST, DEEP_TUPLE, NO_CONSTRAINTS_OF_THREE, NO_PROBLEMS, ODD_VALUES, OTHER_DEEP_TUPLE, VERDICTS, all_rankings,
+    contradictions_by_others, denying, every_constraint, good_rankings, is_cyclic, meets, name_of_wrong, plus,
+    right_ranking, right_verdict, sampled_problems, satisfying, small_problems, threes, tiny_problems, told_evidence,
+    told_verdict, variants,
 )
 
 THREE = (3, (("within", 2, 1, 2), ("ahead", 2, 0)))
 NONE = (3, (("ahead", 0, 1), ("within", 1, 1, 1)))
 ROUND = (3, (("ahead", 0, 1), ("ahead", 1, 0)))
-WORDS = ("none", "certain", "impossible", "open")
-
-NO_CONSTRAINTS_OF_THREE = [
-    ("within", 0, 1), ("within", 0, 1, 4), ("within", 0, 0, 1), ("within", 0, 2, 1), ("within", 3, 1, 1),
-    ("within", -1, 1, 1), ("within", 0, 1, 1, 1), ("within", False, 1, 1), ("within", 0, True, 1),
-    ("within", 0, 1, True),
-    ("within", 0.0, 1, 1), ("within", "0", 1, 1), ["within", 0, 1, 1], ("ahead", 0, 0), ("ahead", 0, 3), ("ahead", 0),
-    ("ahead", -1, 0), ("ahead", 0, 1, 2), ("ahead", False, 1), ("ahead", 0, True), ["ahead", 0, 1], ("behind", 0, 1),
-    ("ahead", [0], 1), ("within", 0, None, 1), (("ahead", 0, 1),), (("ahead",), 0, 1), ("AHEAD", 0, 1), "ahead",
-]
-
-
-def denying(items, constraint):
-    """The negation of the constraint, as point 53 says."""
-    if constraint[0] == "ahead":
-        return (("ahead", constraint[2], constraint[1]),)
-    word, item, low, high = constraint
-    found = []
-    if low > 1:
-        found.append((word, item, 1, low - 1))
-    if high < items:
-        found.append((word, item, high + 1, items))
-    return tuple(found)
-
-
-def told_verdict(problem, constraint):
-    """The verdict on the constraint by all good rankings (point 54)."""
-    met = [meets(ranking, constraint) for ranking in good_rankings(problem)]
-    if not met:
-        return "none"
-    return "certain" if all(met) else "open" if any(met) else "impossible"
-
-
-def told_evidence(problem, constraint):
-    """The told evidence, step by step (point 56)."""
-    word = told_verdict(problem, constraint)
-    if word == "none":
-        return word, told_contradiction(problem)
-    denied = [plus(problem, one) for one in denying(problem[0], constraint)]
-    if word == "certain":
-        return word, place_by_place(problem), tuple(told_contradiction(one) for one in denied)
-    behind = plus(problem, constraint)
-    if word == "impossible":
-        return word, place_by_place(problem), told_contradiction(behind)
-    return word, place_by_place(behind), next(place_by_place(one) for one in denied if good_rankings(one))
-
-
-def right_verdict(problem, constraint, value):
-    """Whether the value is evidence of a verdict on the constraint (point 55)."""
-    if value.__class__ is not tuple or not value or value[0].__class__ is not str:
-        return False
-    word, parts = value[0], value[1:]
-    if word == "none":
-        return len(parts) == 1 and right_contradiction(problem, parts[0])
-    if word not in WORDS or len(parts) != 2 or not right_ranking(problem, parts[0]):
-        return False
-    if word == "certain":
-        denied = [plus(problem, one) for one in denying(problem[0], constraint)]
-        if parts[1].__class__ is not tuple or len(parts[1]) != len(denied):
-            return False
-        return all(right_contradiction(one, other) for one, other in zip(denied, parts[1]))
-    if word == "impossible":
-        return right_contradiction(plus(problem, constraint), parts[1])
-    good = right_ranking(problem, parts[1])
-    return good and meets(parts[0], constraint) and not meets(parts[1], constraint)
 
 
 def cases(step):
@@ -134,7 +70,7 @@ class Verdict(unittest.TestCase):
             found = verdict(problem, one)
             self.assertEqual(found, told_verdict(problem, one), (problem, one))
             counted[found] += 1
-        for word in WORDS:
+        for word in VERDICTS:
             self.assertGreater(counted[word], 100)
 
     def test_point_54_all_constraints_of_two_items(self):
@@ -165,7 +101,7 @@ class Verdict(unittest.TestCase):
             found = verdict(problem, one)
             self.assertEqual(found, told_verdict(problem, one), (problem, one))
             counted[found] += 1
-        for word in WORDS:
+        for word in VERDICTS:
             self.assertGreater(counted[word], 20)
 
     def test_point_61_with_further_constraints(self):
@@ -223,7 +159,7 @@ class ToldEvidence(unittest.TestCase):
             self.assertEqual(found, told_evidence(problem, one), (problem, one))
             self.assertIs(accepts_verdict(problem, one, found), True)
             counted[found[0]] += 1
-        for word in WORDS:
+        for word in VERDICTS:
             self.assertGreater(counted[word], 10)
 
     def test_point_56_the_first_constraint_of_the_negation_that_leaves_a_ranking(self):
@@ -280,7 +216,7 @@ class Judge(unittest.TestCase):
                 if found:
                     self.assertEqual(value[0], told)
                     accepted[told] += 1
-        for word in WORDS:
+        for word in VERDICTS:
             self.assertGreater(accepted[word], 50)
 
     def test_point_55_all_pairs_of_rankings(self):
@@ -296,7 +232,7 @@ class Judge(unittest.TestCase):
     def test_point_55_evidence_of_the_other_words(self):
         for problem, one in cases(53):
             told = verdict_evidence(problem, one)
-            for word in WORDS + ("cycle", "overfull", "ranking", "contradiction", "", "certainly"):
+            for word in VERDICTS + ("cycle", "overfull", "ranking", "contradiction", "", "certainly"):
                 value = (word,) + told[1:]
                 self.assertIs(accepts_verdict(problem, one, value), word == told[0])
 
@@ -358,7 +294,7 @@ class Judge(unittest.TestCase):
 
     def test_point_63_values_of_every_kind(self):
         odd = list(ODD_VALUES)
-        for word in WORDS:
+        for word in VERDICTS:
             odd += [word, (word,), (word, None), (word, DEEP_TUPLE), (word, None, None), (word, DEEP_TUPLE, DEEP_TUPLE)]
             odd += [(word, (2, 0, 1)), (word, (2, 0, 1), DEEP_TUPLE), (word, (2, 0, 1), DEEP_LIST), (word, (), ())]
             odd += [(word, (2, 0, 1), [()]), [word, (2, 0, 1), ()], (word, (2, 0, 1), (DEEP_TUPLE, OTHER_DEEP_TUPLE))]
